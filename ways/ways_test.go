@@ -22,6 +22,7 @@ func TestWays(t *testing.T) {
 	for layer, wanted := range map[string]string{
 		"tide": "range-string range-function generic-function closure struct-compared label three-index map variadic",
 		"jug":  "array array-compared copy map range-function method-value closure label variadic",
+		"hull": "range-function struct-compared method-value label variadic generic-function closure array-compared",
 	} {
 		if _, err := l.Import(module + layer); err != nil {
 			t.Fatal(err)
@@ -54,6 +55,7 @@ func newLoader() *loader {
 		Types:      map[ast.Expr]types.TypeAndValue{},
 		Uses:       map[*ast.Ident]types.Object{},
 		Selections: map[*ast.SelectorExpr]*types.Selection{},
+		Instances:  map[*ast.Ident]types.Instance{},
 	}
 	return &loader{fset, info, map[string][]*ast.File{}, map[string]*types.Package{}, importer.ForCompiler(fset, "source", nil)}
 }
@@ -97,6 +99,11 @@ func (l *loader) used(layer string) map[string]bool {
 			}
 			if s, is := n.(*ast.SelectorExpr); is && l.isMethodValue(s) && !called[s] {
 				used["method-value"] = true
+			}
+			if id, is := n.(*ast.Ident); is {
+				for _, compared := range l.comparedBy(id) {
+					used[kind(compared)+"-compared"] = true
+				}
 			}
 			used[l.feature(n)] = true
 			return true
@@ -147,6 +154,23 @@ func (l *loader) feature(n ast.Node) string {
 func (l *loader) isMethodValue(s *ast.SelectorExpr) bool {
 	selection := l.info.Selections[s]
 	return selection != nil && selection.Kind() == types.MethodVal
+}
+
+// comparedBy are the types whose values a generic function, if that is what the name stands for, may hold against each other.
+func (l *loader) comparedBy(name *ast.Ident) []types.Type {
+	f, is := l.info.Uses[name].(*types.Func)
+	if !is {
+		return nil
+	}
+	var list []types.Type
+	arguments := l.info.Instances[name].TypeArgs
+	for i := range arguments.Len() {
+		constraint := f.Signature().TypeParams().At(i).Constraint().Underlying().(*types.Interface)
+		if constraint.IsComparable() {
+			list = append(list, arguments.At(i))
+		}
+	}
+	return list
 }
 
 // kind is a type's part of the name of a feature.
