@@ -24,6 +24,7 @@ func TestWays(t *testing.T) {
 		"jug":   "array array-compared copy map range-function method-value closure label variadic",
 		"hull":  "range-function struct-compared method-value label variadic generic-function closure array-compared",
 		"berth": "struct-compared range-function closure label generic-function variadic array-compared method-value",
+		"order": "array range-function closure label map struct-compared generic-function variadic",
 	} {
 		if _, err := l.Import(module + layer); err != nil {
 			t.Fatal(err)
