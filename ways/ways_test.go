@@ -25,6 +25,7 @@ func TestWays(t *testing.T) {
 		"hull":  "range-function struct-compared method-value label variadic generic-function closure array-compared",
 		"berth": "struct-compared range-function closure label generic-function variadic array-compared method-value",
 		"order": "array range-function closure label map struct-compared generic-function variadic",
+		"flag":  "range-string range-function map struct-compared label closure generic-function variadic",
 	} {
 		if _, err := l.Import(module + layer); err != nil {
 			t.Fatal(err)
