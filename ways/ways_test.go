@@ -26,6 +26,7 @@ func TestWays(t *testing.T) {
 		"berth": "struct-compared range-function closure label generic-function variadic array-compared method-value",
 		"order": "array range-function closure label map struct-compared generic-function variadic",
 		"flag":  "range-string range-function map struct-compared label closure generic-function variadic",
+		"gauss": "array-compared range-function range-integer generic-function closure map label variadic",
 	} {
 		if _, err := l.Import(module + layer); err != nil {
 			t.Fatal(err)
@@ -191,6 +192,9 @@ func kind(t types.Type) string {
 	case *types.Basic:
 		if x.Info()&types.IsString != 0 {
 			return "string"
+		}
+		if x.Info()&types.IsInteger != 0 {
+			return "integer"
 		}
 	}
 	return ""
