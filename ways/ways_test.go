@@ -20,13 +20,14 @@ const module = "careen/"
 func TestWays(t *testing.T) {
 	l := newLoader()
 	for layer, wanted := range map[string]string{
-		"tide":  "range-string range-function generic-function closure struct-compared label three-index map variadic",
-		"jug":   "array array-compared copy map range-function method-value closure label variadic",
-		"hull":  "range-function struct-compared method-value label variadic generic-function closure array-compared",
-		"berth": "struct-compared range-function closure label generic-function variadic array-compared method-value",
-		"order": "array range-function closure label map struct-compared generic-function variadic",
-		"flag":  "range-string range-function map struct-compared label closure generic-function variadic",
-		"gauss": "array-compared range-function range-integer generic-function closure map label variadic",
+		"tide":   "range-string range-function generic-function closure struct-compared label three-index map variadic",
+		"jug":    "array array-compared copy map range-function method-value closure label variadic",
+		"hull":   "range-function struct-compared method-value label variadic generic-function closure array-compared",
+		"berth":  "struct-compared range-function closure label generic-function variadic array-compared method-value",
+		"order":  "array range-function closure label map struct-compared generic-function variadic",
+		"flag":   "range-string range-function map struct-compared label closure generic-function variadic",
+		"gauss":  "array-compared range-function range-integer generic-function closure map label variadic",
+		"supply": "array map range-function closure label struct-compared variadic generic-function method-value",
 	} {
 		if _, err := l.Import(module + layer); err != nil {
 			t.Fatal(err)
