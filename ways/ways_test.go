@@ -28,6 +28,7 @@ func TestWays(t *testing.T) {
 		"flag":   "range-string range-function map struct-compared label closure generic-function variadic",
 		"gauss":  "array-compared range-function range-integer generic-function closure map label variadic",
 		"supply": "array map range-function closure label struct-compared variadic generic-function method-value",
+		"sluice": "method-value range-function struct-compared closure label generic-function array variadic",
 	} {
 		if _, err := l.Import(module + layer); err != nil {
 			t.Fatal(err)
