@@ -29,6 +29,7 @@ func TestWays(t *testing.T) {
 		"gauss":  "array-compared range-function range-integer generic-function closure map label variadic",
 		"supply": "array map range-function closure label struct-compared variadic generic-function method-value",
 		"sluice": "method-value range-function struct-compared closure label generic-function array variadic",
+		"dues":   "array range-function struct-compared generic-function variadic map label closure",
 	} {
 		if _, err := l.Import(module + layer); err != nil {
 			t.Fatal(err)
